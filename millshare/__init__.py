@@ -1,0 +1,1 @@
+"""Millshare: mills whose next piece is never cheaper, and how many pieces each makes."""
