@@ -47,3 +47,37 @@ def small_mills():
     """Pairs of a small mill and the costs of its pieces, one by one."""
     for rows in small_lists():
         yield Mill(len(rows) - 1, rows), pieces(rows)
+
+
+def few_mills():
+    """A few small mills of like and unlike costs, one of them without pieces."""
+    lists = ([], [(1, 0)], [(2, 0)], [(1, -1), (1, 0)], [(1, 0), (2, 1)], [(2, 1), (1, 2)])
+    return [Mill(3 * place - 4, rows) for place, rows in enumerate(lists)]
+
+
+def few_lists():
+    """Lists of one, two and three of the few mills, the same one twice, too."""
+    for length in (1, 2, 3):
+        for mills in product(few_mills(), repeat=length):
+            yield list(mills)
+
+
+def plain_cost(mills, numbers):
+    """What shares cost, piece by piece."""
+    made = [pieces(mill.stretches)[:number] for mill, number in zip(mills, numbers)]
+    return sum(mill.base for mill in mills) + sum(map(sum, made))
+
+
+def all_shares(mills):
+    """All shares among the mills, with what they cost, by what they come to."""
+    found = {}
+    for numbers in product(*[range(mill.size + 1) for mill in mills]):
+        row = (plain_cost(mills, numbers), list(numbers))
+        found.setdefault(sum(numbers), []).append(row)
+    return found
+
+
+def plain_shares(rows):
+    """Of shares with their costs, the cheapest; of several, the first mills make most."""
+    least = min(cost for cost, _ in rows)
+    return max(numbers for cost, numbers in rows if cost == least)
